@@ -1,0 +1,1 @@
+"""Mines under sixty squares: the game is played through sixtymines.board.answers."""
