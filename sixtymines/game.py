@@ -25,8 +25,8 @@ class Game:
         self.state = GOING_ON
         return size(mines)
 
+    # The document's call open (that word is one of Python's own).
     def uncover(self, c):
-        """The document's call open (that word is one of Python's own)."""
         refusal = self.refusal_of(c)
         if refusal < 0:
             return refusal
@@ -45,8 +45,8 @@ class Game:
         self.marked = self.marked ^ (1 << c)
         return 1 if holds(self.marked, c) else 0
 
+    # The document's call about.
     def uncover_about(self, c):
-        """The document's call about."""
         refusal = self.refusal_of(c)
         if refusal < 0:
             return refusal
@@ -62,8 +62,8 @@ class Game:
     def tell(self):
         return [self.state, self.opened, self.marked]
 
+    # What every move on square c is refused with, or 0.
     def refusal_of(self, c):
-        """What every move on square c is refused with, or 0."""
         if not is_square(c):
             return NOT_IN_RANGE
         if self.state != GOING_ON:
@@ -78,8 +78,8 @@ class Game:
         self.state = LOST
         return HIT_A_MINE
 
+    # Opens these squares, none of them a mine, and spreads from those with no mine about them.
     def uncover_safe(self, squares):
-        """Opens these squares, none of them a mine, and spreads from those with no mine about them."""
         many = 0
         waiting = list(squares)
         while len(waiting) > 0:

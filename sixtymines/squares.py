@@ -10,8 +10,8 @@ def is_square(c):
     return 0 <= c and c < SQUARES
 
 
+# The squares beside, above, below and at the corners of c, the lowest number first.
 def squares_about(c):
-    """The squares beside, above, below and at the corners of c, the lowest number first."""
     row = c // COLUMNS
     column = c % COLUMNS
     found = []
@@ -27,8 +27,8 @@ def holds(squares, c):
     return (squares >> c) & 1 == 1
 
 
+# How many squares a set has.
 def size(squares):
-    """How many squares a set has."""
     many = 0
     rest = squares
     while rest > 0:
@@ -37,6 +37,6 @@ def size(squares):
     return many
 
 
+# Those of the candidates that are in the set, in the order in which they came.
 def members_among(squares, candidates):
-    """Those of the candidates that are in the set, in the order in which they came."""
     return [c for c in candidates if holds(squares, c)]

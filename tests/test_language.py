@@ -108,8 +108,10 @@ class FormTest(unittest.TestCase):
         for name, node in nodes(ast.BinOp):
             if isinstance(node.op, ast.Pow):
                 self.assertTrue(isinstance(node.right, ast.Constant) and 0 <= node.right.value <= 64, name)
-        for name, node in nodes(ast.Expr):
-            self.assertTrue(isinstance(node.value, (ast.Call, ast.Constant)), (name, node.lineno))
+        for name, tree in trees():
+            by_themselves = [node for node in ast.walk(tree) if isinstance(node, ast.Expr) and node != tree.body[0]]
+            for node in by_themselves:
+                self.assertIsInstance(node.value, ast.Call, (name, node.lineno))
 
     def test_the_top_of_a_file(self):
         for name, tree in trees():
@@ -132,8 +134,7 @@ class FormTest(unittest.TestCase):
         for name, node in nodes(ast.ClassDef):
             self.assertEqual((node.decorator_list, node.keywords), ([], []), name)
             self.assertLessEqual(len(node.bases), 1, name)
-            body = node.body[1:] if ast.get_docstring(node) else node.body
-            self.assertTrue(all(isinstance(part, (ast.FunctionDef, ast.Pass)) for part in body), name)
+            self.assertTrue(all(isinstance(part, (ast.FunctionDef, ast.Pass)) for part in node.body), name)
 
 
 class NamesTest(unittest.TestCase):
