@@ -1,1 +1,1 @@
-"""Mines under sixty squares: the game is played through sixtymines.board.answers."""
+"""Mines under sixty squares: all its calls go through sixtymines.board.answers."""

@@ -1,15 +1,12 @@
 """One game: where its mines lie, what is open, what is marked, and whether it goes on."""
 
+from sixtymines.refusals import GAME_IS_OVER, HIT_A_MINE, NOT_ALLOWED, NOT_IN_RANGE
 from sixtymines.squares import ALL_SQUARES, SQUARES, holds, is_square, members_among, size, squares_about
+from sixtymines.tally import CLOSED
 
 GOING_ON = 0
 WON = 1
 LOST = 2
-
-HIT_A_MINE = -1
-NOT_ALLOWED = -2
-NOT_IN_RANGE = -8
-GAME_IS_OVER = -9
 
 
 class Game:
@@ -62,6 +59,13 @@ class Game:
     def tell(self):
         return [self.state, self.opened, self.marked]
 
+    # What is seen of each square: the mines about it if it's open, else nothing.
+    def sight(self):
+        return [self.mines_about(c) if holds(self.opened, c) else CLOSED for c in range(SQUARES)]
+
+    def mines_about(self, c):
+        return len(members_among(self.mines, squares_about(c)))
+
     # What every move on square c is refused with, or 0.
     def refusal_of(self, c):
         if not is_square(c):
@@ -88,9 +92,8 @@ class Game:
             if not holds(self.opened | self.marked, c):
                 self.opened = self.opened | (1 << c)
                 many = many + 1
-                near = squares_about(c)
-                if len(members_among(self.mines, near)) == 0:
-                    waiting.extend(near)
+                if self.mines_about(c) == 0:
+                    waiting.extend(squares_about(c))
         if many > 0 and self.opened == ALL_SQUARES ^ self.mines:
             self.state = WON
         return many

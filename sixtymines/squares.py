@@ -40,3 +40,10 @@ def size(squares):
 # Those of the candidates that are in the set, in the order in which they came.
 def members_among(squares, candidates):
     return [c for c in candidates if holds(squares, c)]
+
+
+def set_of(squares):
+    together = 0
+    for c in squares:
+        together = together | (1 << c)
+    return together

@@ -1,4 +1,7 @@
-"""Points 1 to 6 in long made-up games, beside a second player that keeps squares as rows and columns."""
+"""Points 1 to 6 in long made-up games, beside a second player that keeps squares as rows and columns.
+
+Calls of points 7 to 9 stand among the others; what they answer is what each answers in a line of its own.
+"""
 
 import random
 import unittest
@@ -63,6 +66,8 @@ class Model:
         return -1 if self.hit(wave) else self.grow(wave)
 
     def answer(self, call):
+        if call[0] > 4:
+            return answers(list(call))
         if call[0] == 4:
             return [3, self.over] + [sum(1 << c for c, place in enumerate(PLACES) if place in places)
                                      for places in (self.seen, self.flags)]
@@ -79,7 +84,24 @@ def some_mines(dice):
     return sum(1 << c for c in range(60) if dice.random() < share)
 
 
+def some_sight(dice, model):
+    """What may be seen of the game: of open squares the number, of some marked ones that they are mines."""
+    known = {place for place in model.flags if dice.random() < 0.3}
+    told = {place: len(model.mines.intersection(model.near(place))) for place in model.seen - model.mines}
+    return [10 if place in known else told.get(place, 9) for place in PLACES]
+
+
+def some_call_beside_the_game(dice, model):
+    number = dice.randrange(5, 10)
+    if number == 9:
+        return (9, some_mines(dice), dice.choice((-1, 60, *range(60))))
+    m = dice.choice((LOWEST, -1, 61, HIGHEST)) if dice.random() < 0.05 else len(model.mines)
+    return (number, m, 60, *some_sight(dice, model))
+
+
 def some_call(dice, model):
+    if dice.random() < 0.1:
+        return some_call_beside_the_game(dice, model)
     chance = dice.random()
     if model.over and chance < 0.4 or chance < 0.02:
         return (0, some_mines(dice) if dice.random() < 0.8 else dice.randrange(2 ** 60, 2 ** 64))
@@ -113,5 +135,7 @@ class ModelTest(unittest.TestCase):
                 reached[kind] = reached.get(kind, 0) + 1
             self.assertEqual(answers(flat(calls)), wanted, seed)
         for kind in ((0, -8), (1, -9), (1, -8), (1, -1), (1, 0), (1, 1), (1, 2), (2, -9), (2, -8), (2, -2), (2, 0),
-                     (2, 1), (3, -9), (3, -8), (3, -2), (3, -1), (3, 0), (3, 1), (3, 2), (4, 0), (4, 1), (4, 2)):
+                     (2, 1), (3, -9), (3, -8), (3, -2), (3, -1), (3, 0), (3, 1), (3, 2), (4, 0), (4, 1), (4, 2),
+                     (5, -8), (5, 0), (5, 1), (5, 2), (6, -8), (6, -1), (6, 0), (7, -8), (7, -1), (7, 0), (7, 2),
+                     (8, -8), (8, -1), (8, 0), (8, 2), (9, -8), (9, -1), (9, 0), (9, 2)):
             self.assertGreater(reached.get(kind, 0), 20, kind)

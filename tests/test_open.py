@@ -2,13 +2,7 @@
 
 import unittest
 
-from tests.lines import ALL, TELL, about, begin, bits, last, mark, play, uncover
-
-
-def near(c):
-    """The squares about c, by the distance of their rows and columns."""
-    return [d for d in range(60)
-            if d != c and abs(d // 6 - c // 6) <= 1 and abs(d % 6 - c % 6) <= 1]
+from tests.lines import ALL, TELL, about, begin, bits, last, mark, near, play, uncover
 
 
 class NothingHappensTest(unittest.TestCase):
